@@ -1,0 +1,1 @@
+"""Somerows: copies that hold just the rows that pass a test."""

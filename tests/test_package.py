@@ -1,0 +1,60 @@
+"""Tests of the package as a whole: its interface and the form of its files."""
+
+import ast
+import importlib
+import inspect
+import pathlib
+import unittest
+
+PACKAGE = pathlib.Path(__file__).resolve().parent.parent / 'somerows'
+FILES = sorted(PACKAGE.rglob('*.py'))
+INTERFACE = {
+    'cases': ['is_case(value)', 'value_passes(case, value)', 'pair_passes(case, kind, value)'],
+    'sources': ['is_source(case, value)', 'child_passes(case, source)', 'wished(case, source)',
+                'commits(case, source)', 'after_commit(source, commit)'],
+}
+
+
+class Interface(unittest.TestCase):
+    def test_each_function_stands_in_its_file_with_its_parameters(self):
+        for file, entries in INTERFACE.items():
+            module = importlib.import_module('somerows.' + file)
+            for entry in entries:
+                name = entry.partition('(')[0]
+                function = getattr(module, name)
+                self.assertEqual(name + str(inspect.signature(function)), entry)
+                self.assertEqual(function.__module__, 'somerows.' + file)
+
+
+class Form(unittest.TestCase):
+    def test_the_folder_holds_files_of_python_alone(self):
+        others = [path for path in PACKAGE.rglob('*')
+                  if path.is_file() and path.suffix != '.py' and path.parent.name != '__pycache__']
+        self.assertEqual(others, [])
+        self.assertIn(PACKAGE / '__init__.py', FILES)
+
+    def test_lines_and_characters(self):
+        for path in FILES:
+            text = path.read_text(encoding='utf-8')
+            lines = text.splitlines()
+            self.assertLessEqual(len(lines), 399, path)
+            self.assertLessEqual(max(map(len, lines)), 120, path)
+            self.assertEqual([sign for sign in text if sign != '\n' and not ' ' <= sign <= '~'], [])
+
+    def test_no_function_is_long(self):
+        for path in FILES:
+            for node in ast.walk(ast.parse(path.read_text(encoding='utf-8'))):
+                if isinstance(node, ast.FunctionDef):
+                    length = node.end_lineno - node.lineno + 1
+                    self.assertLessEqual(length, 40, (path, node.name))
+
+    def test_imports_are_from_the_package_alone(self):
+        for path in FILES:
+            for node in ast.walk(ast.parse(path.read_text(encoding='utf-8'))):
+                self.assertNotIsInstance(node, ast.Import, path)
+                if isinstance(node, ast.ImportFrom):
+                    self.assertEqual((node.level, node.module.partition('.')[0]), (0, 'somerows'))
+
+
+if __name__ == '__main__':
+    unittest.main()
