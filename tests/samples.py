@@ -4,6 +4,8 @@ import itertools
 
 SMALL = (1, 2, 1, ((0, 1),), False)
 PAIR = (2, 2, 1, ((0, 1),), False)
+SAFE = (1, 1, 'all', 'all', True, True, True, 'never')
+BARE = (2, 1, 'all', 'all', False, False, False, 'never')
 
 
 def nested(depth):
@@ -77,3 +79,28 @@ def all_sources(n, values, kinds):
         found.extend((parents, (kind, p))
                      for kind in range(kinds) for p in range(n) if parents[p] >= 0)
     return found
+
+
+def every_plan(lanes=(1, 2), late=(1, 2), anew=('never', 'cut', 'kept')):
+    """Return every plan, or only those with these lanes, late and anew."""
+    words, flags = ('all', 'either', 'now'), (False, True)
+    return list(itertools.product(lanes, late, words, words, flags, flags, flags, anew))
+
+
+PLAN_PARTS = ('lanes', 'late', 'children', 'parents', 'tells_value', 'tells_children',
+              'looks_again', 'anew')
+
+
+def plan_with(plan, **parts):
+    """Return the plan with other parts, given by their names."""
+    for name, part in parts.items():
+        plan = with_part(plan, PLAN_PARTS.index(name), part)
+    return plan
+
+
+def all_copies(case):
+    """Return every copy of the case."""
+    n, _, kinds, test, _ = case
+    kept = [-1] + sorted({value for _, value in test})
+    children = [()] + list(itertools.product(range(kinds), range(n)))
+    return list(itertools.product(itertools.product(kept, repeat=n), children))

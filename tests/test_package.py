@@ -12,6 +12,9 @@ INTERFACE = {
     'cases': ['is_case(value)', 'value_passes(case, value)', 'pair_passes(case, kind, value)'],
     'sources': ['is_source(case, value)', 'child_passes(case, source)', 'wished(case, source)',
                 'commits(case, source)', 'after_commit(source, commit)'],
+    'plans': ['is_plan(value)', 'all_plans(lanes, late, anew)'],
+    'messages': ['messages_of(case, plan, source, commit)'],
+    'copies': ['is_copy(case, value)', 'received(case, plan, copy, message)'],
 }
 
 
