@@ -21,6 +21,25 @@ def is_source(case, value):
     return is_child_state(case, child) and refers_rightly(parents, child)
 
 
+def all_parents(case):
+    """Return every tuple of the states of all parents, in ascending order."""
+    found = [()]
+    for _ in range(case[0]):
+        found = [parents + (state,) for parents in found for state in parent_states(case)]
+    return found
+
+
+def all_sources(case):
+    """Return all sources, in ascending order."""
+    children = child_states(case)
+    return [
+        (parents, child)
+        for parents in all_parents(case)
+        for child in children
+        if refers_rightly(parents, child)
+    ]
+
+
 def child_passes(case, source):
     """Return whether the child passes in the source."""
     parents, child = source

@@ -1,9 +1,11 @@
-"""A second working out of points [7] and [8], which the package is compared with.
+"""A second working out of points [7] to [12], which the package is compared with.
 
 It says the same in another way: rows by their names, entries as they are told.
 """
 
 from collections import namedtuple
+
+from somerows.sources import commits
 
 Case = namedtuple('Case', 'n values kinds test joint')
 Plan = namedtuple('Plan', 'lanes late children parents tells_value tells_children looks_again anew')
@@ -96,3 +98,148 @@ def received(case, plan, copy, message):
                 value = rows.get(state[1]) if state else None
             put('child', state, state and (state[0], value) in pairs)
     return state_of(case, rows)
+
+
+def wished_rows(case, source):
+    """Return the rows that the copy should have, by their names."""
+    names = passing_names(case, source)
+    return {name: row for name, row in rows_of(source).items() if name in names}
+
+
+def beginning(case, plan):
+    absent = state_of(case, {})
+    return absent, absent, tuple(() for _ in range(Plan(*plan).lanes)), 0
+
+
+def after(case, plan, standing, step):
+    """Return the standing after a step that may be taken."""
+    source, copy, lanes, mark = standing
+    lanes = [list(lane) for lane in lanes]
+    later_source, later_copy = source, copy
+    if step[0] == 'commit':
+        for lane, message in zip(lanes, messages(case, plan, source, step[1])):
+            if message is not None:
+                lane.append(message)
+        later_source = source_after(case, source, step[1])
+    elif step[0] == 'deliver':
+        later_copy = received(case, plan, copy, lanes[step[1]].pop(0))
+    else:
+        later_copy = state_of(case, wished_rows(case, source))
+        if Plan(*plan).anew == 'cut':
+            lanes = [[] for _ in lanes]
+    passed = 'child' in passing_names(case, source)
+    passes = 'child' in passing_names(case, later_source)
+    had, has = 'child' in rows_of(copy), 'child' in rows_of(later_copy)
+    later_mark = 0
+    if has and passes and (mark == 1 or not had):
+        later_mark = 1
+    if not has and passed and passes and mark == 1:
+        later_mark = 2
+    return later_source, later_copy, tuple(map(tuple, lanes)), later_mark
+
+
+def steps(case, plan, standing):
+    source, _, lanes, _ = standing
+    found = [('anew',)] if Plan(*plan).anew != 'never' else []
+    found += [('deliver', lane) for lane, waiting in enumerate(lanes) if waiting]
+    for commit in commits(case, source):
+        step = 'commit', commit
+        later = after(case, plan, standing, step)
+        if all(len(waiting) <= Plan(*plan).late for waiting in later[2]):
+            found.append(step)
+    return sorted(found)
+
+
+def faults(case, standing):
+    source, copy, lanes, mark = standing
+    wanted, have = wished_rows(case, source), rows_of(copy)
+    found = {'blinks'} if mark == 2 else set()
+    if 'child' in have and have['child'][1] not in have:
+        found.add('dangles')
+    if not any(lanes):
+        if any(have.get(name) != row for name, row in wanted.items()):
+            found.add('lacks')
+        if any(name not in wanted for name in have):
+            found.add('left')
+    return tuple(sorted(found))
+
+
+def distances(case, plan):
+    """Return all standings that steps lead to, each with the fewest steps that do."""
+    found = {beginning(case, plan): 0}
+    queue = list(found)
+    for standing in queue:
+        for step in steps(case, plan, standing):
+            later = after(case, plan, standing, step)
+            if later not in found:
+                found[later] = found[standing] + 1
+                queue.append(later)
+    return found
+
+
+def possible_messages(case, plan):
+    """Return, for each lane, the set of the messages that commits of all sources can give."""
+    found = [set() for _ in range(Plan(*plan).lanes)]
+    for source in every_source(case):
+        for commit in commits(case, source):
+            for lane, message in enumerate(messages(case, plan, source, commit)):
+                found[lane] |= {message} - {None}
+    return found
+
+
+def every_source(case):
+    """Return all sources: those that commits lead to, as all absent can become any."""
+    found = {state_of(case, {}): True}
+    queue = list(found)
+    for source in queue:
+        for commit in commits(case, source):
+            later = source_after(case, source, commit)
+            if later not in found:
+                found[later] = True
+                queue.append(later)
+    return queue
+
+
+def is_faulty(case, words, standing):
+    return bool(set(words) & set(faults(case, standing)))
+
+
+def fewest(case, words, distances):
+    """Return the fewest steps that lead to a fault of the words, or None if none do."""
+    return min((number for standing, number in distances.items()
+                if is_faulty(case, words, standing)), default=None)
+
+
+def laters(case, plan, standing):
+    return [after(case, plan, standing, step) for step in steps(case, plan, standing)]
+
+
+def holds_as_table(case, plan, words, value):
+    """Return whether a tuple of standings is a table, by its definition alone."""
+    known = set(value)
+    return (list(value) == sorted(known) and beginning(case, plan) in known
+            and not any(is_faulty(case, words, standing) for standing in known)
+            and all(known.issuperset(laters(case, plan, standing)) for standing in known))
+
+
+def holds_as_history(case, plan, words, value):
+    """Return whether a tuple of steps of any standings is a history."""
+    standing = beginning(case, plan)
+    for at, step in enumerate(value):
+        if step not in steps(case, plan, standing):
+            return False
+        standing = after(case, plan, standing, step)
+        if is_faulty(case, words, standing):
+            return at == len(value) - 1
+    return False
+
+
+def holds_as_layers(case, plan, words, number, value):
+    """Return whether a dict from standings to integers is layers that reach the number."""
+    greatest = max(value.values(), default=-1)
+    lower = [standing for standing, own in value.items() if own < greatest]
+    return (min(value.values(), default=-1) >= 0 and greatest >= number
+            and value.get(beginning(case, plan)) == 0
+            and not any(is_faulty(case, words, standing) for standing in lower)
+            and all(later in value and value[later] - value[standing] <= 1
+                    for standing in lower for later in laters(case, plan, standing)))

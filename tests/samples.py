@@ -4,6 +4,7 @@ import itertools
 
 SMALL = (1, 2, 1, ((0, 1),), False)
 PAIR = (2, 2, 1, ((0, 1),), False)
+JOINT = (1, 2, 1, ((0, 1),), True)
 SAFE = (1, 1, 'all', 'all', True, True, True, 'never')
 BARE = (2, 1, 'all', 'all', False, False, False, 'never')
 
@@ -104,3 +105,29 @@ def all_copies(case):
     kept = [-1] + sorted({value for _, value in test})
     children = [()] + list(itertools.product(range(kinds), range(n)))
     return list(itertools.product(itertools.product(kept, repeat=n), children))
+
+
+WORDS = ('blinks', 'dangles', 'lacks', 'left')
+
+
+def every_words():
+    """Return all words of faults, from none to all four."""
+    return [words for size in range(5) for words in itertools.combinations(WORDS, size)]
+
+
+# Cases whose parents, values and kinds multiply to at most 4.
+SEARCHED = [
+    SMALL, JOINT, PAIR,
+    (1, 1, 1, ((0, 0),), False), (1, 2, 1, (), True), (1, 1, 2, ((1, 0),), True),
+    (1, 3, 1, ((0, 1), (0, 2)), False), (1, 2, 2, ((0, 1), (1, 0)), False),
+    (2, 1, 1, ((0, 0),), True), (2, 1, 2, ((0, 0),), False), (3, 1, 1, ((0, 0),), False),
+]
+
+
+def searched():
+    """Return pairs of a case and a plan in which each part of a plan takes each value."""
+    pairs = []
+    for number, case in enumerate(SEARCHED):
+        plans = every_plan(late=(1,) if case[0] > 1 else (1, 2))
+        pairs.extend((case, plan) for plan in [SAFE, BARE] + plans[number * 7::97])
+    return pairs

@@ -4,11 +4,10 @@ import copy
 import unittest
 
 import model
-from samples import BARE, PAIR, SAFE, SMALL, all_sources, all_tests, every_plan, plan_with
+from samples import BARE, JOINT, PAIR, SAFE, SMALL, all_sources, all_tests, every_plan, plan_with
 from somerows.messages import messages_of
 from somerows.sources import commits
 
-JOINT = (1, 2, 1, ((0, 1),), True)
 JOINT_PAIR = (2, 2, 2, ((0, 1), (1, 0)), True)
 THREE = (1, 3, 1, ((0, 1), (0, 2)), False)
 

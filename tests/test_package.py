@@ -15,6 +15,13 @@ INTERFACE = {
     'plans': ['is_plan(value)', 'all_plans(lanes, late, anew)'],
     'messages': ['messages_of(case, plan, source, commit)'],
     'copies': ['is_copy(case, value)', 'received(case, plan, copy, message)'],
+    'standings': ['beginning(case, plan)', 'is_standing(case, plan, value)',
+                  'steps(case, plan, standing)', 'after(case, plan, standing, step)'],
+    'faults': ['is_words(value)', 'faults(case, standing)'],
+    'tables': ['find_table(case, plan, words)', 'find_history(case, plan, words)',
+               'is_table(case, plan, words, value)', 'is_history(case, plan, words, value)'],
+    'layers': ['find_layers(case, plan, words)', 'fewest_steps(case, plan, words)',
+               'is_layers(case, plan, words, number, value)'],
 }
 
 

@@ -1,0 +1,60 @@
+"""Which messages the commits of sources can give by a plan."""
+
+from somerows.cases import is_child_state, is_integer_within, is_parent_state, is_tuple_of
+from somerows.messages import messages_of
+from somerows.plans import LANES
+from somerows.sources import all_sources, commits
+
+
+def is_told(case, value):
+    """Return whether the value is what an entry may tell of children."""
+    if is_tuple_of(value, 0):
+        return True
+    return is_tuple_of(value, 1) and is_integer_within(value[0], 0, case[2] - 1)
+
+
+def has_form_of_entry(case, value):
+    """Return whether the value is made as entries are, of the same kinds of parts."""
+    if is_tuple_of(value, 4):
+        word, p, state, told = value
+        if word != "parent" or not is_integer_within(p, 0, case[0] - 1):
+            return False
+        return is_parent_state(case, state) and is_told(case, told)
+    if is_tuple_of(value, 3):
+        word, state, worth = value
+        return word == "child" and is_child_state(case, state) and is_parent_state(case, worth)
+    return False
+
+
+def has_form_of_message(case, value):
+    """Return whether the value is made as messages are, of the same kinds of parts."""
+    if not isinstance(value, tuple) or len(value) > 2:
+        return False
+    return all([has_form_of_entry(case, entry) for entry in value])
+
+
+class PossibleMessages:
+    """The messages that the commits of all sources can give by a plan."""
+
+    def __init__(self, case, plan):
+        self.case = case
+        self.plan = plan
+        self.unread = all_sources(case)
+        self.found = [{} for _ in range(plan[LANES])]
+
+    def read(self, source):
+        """Add the messages that the commits of the source give."""
+        for commit in commits(self.case, source):
+            for lane, message in enumerate(messages_of(self.case, self.plan, source, commit)):
+                if message is not None:
+                    self.found[lane][message] = True
+
+    def include(self, lane, value):
+        """Return whether the value, which may be any, is such a message in the lane."""
+        # Python takes True for 1, and a list cannot be looked up: the form goes first.
+        if not has_form_of_message(self.case, value):
+            return False
+        # There are many sources, and a few of them give most of the messages.
+        while self.unread and value not in self.found[lane]:
+            self.read(self.unread.pop())
+        return value in self.found[lane]
