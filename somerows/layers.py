@@ -8,16 +8,16 @@ from somerows.standings import are_standings, beginning
 
 def find_layers(case, plan, words):
     """Return layers up to the number of steps of a shortest history, or None if there is none."""
-    search, fault = search_for(case, plan, words)
-    if fault is None:
+    search = search_for(case, plan, words)
+    if search.end is None:
         return None
     return {standing: number for number, level in enumerate(search.levels) for standing in level}
 
 
 def fewest_steps(case, plan, words):
     """Return the number of steps of a shortest history, or None if there is none."""
-    search, fault = search_for(case, plan, words)
-    if fault is None:
+    search = search_for(case, plan, words)
+    if search.end is None:
         return None
     # The beginning is the level of no steps.
     return len(search.levels) - 1

@@ -1,4 +1,4 @@
-"""Which messages the commits of sources can give by a plan."""
+"""Which messages the commits of sources can give, by one plan or by several at once."""
 
 from somerows.cases import is_child_state, is_integer_within, is_parent_state, is_tuple_of
 from somerows.messages import messages_of
@@ -33,28 +33,34 @@ def has_form_of_message(case, value):
     return all([has_form_of_entry(case, entry) for entry in value])
 
 
-class PossibleMessages:
-    """The messages that the commits of all sources can give by a plan."""
+class PossiblePlaces:
+    """What the commits of all sources can put into the lanes, by one plan or by several.
 
-    def __init__(self, case, plan):
+    A place is a tuple with the message of one commit by each of the plans.
+    """
+
+    def __init__(self, case, plans):
         self.case = case
-        self.plan = plan
+        self.plans = plans
         self.unread = all_sources(case)
-        self.found = [{} for _ in range(plan[LANES])]
+        self.found = [{} for _ in range(plans[0][LANES])]
 
     def read(self, source):
-        """Add the messages that the commits of the source give."""
+        """Add the places that the commits of the source give."""
         for commit in commits(self.case, source):
-            for lane, message in enumerate(messages_of(self.case, self.plan, source, commit)):
-                if message is not None:
-                    self.found[lane][message] = True
+            told = [messages_of(self.case, plan, source, commit) for plan in self.plans]
+            for lane, place in enumerate(zip(*told)):
+                if place[0] is not None:
+                    self.found[lane][place] = True
 
     def include(self, lane, value):
-        """Return whether the value, which may be any, is such a message in the lane."""
+        """Return whether the value, which may be any, is such a place in the lane."""
         # Python takes True for 1, and a list cannot be looked up: the form goes first.
-        if not has_form_of_message(self.case, value):
+        if not is_tuple_of(value, len(self.plans)):
             return False
-        # There are many sources, and a few of them give most of the messages.
+        if not all([has_form_of_message(self.case, message) for message in value]):
+            return False
+        # There are many sources, and a few of them give most of the places.
         while self.unread and value not in self.found[lane]:
             self.read(self.unread.pop())
         return value in self.found[lane]

@@ -4,7 +4,7 @@ from somerows.cases import is_integer_within, is_tuple_of
 from somerows.copies import is_copy, received
 from somerows.messages import messages_of
 from somerows.plans import ANEW, LANES, LATE
-from somerows.possible import PossibleMessages
+from somerows.possible import PossiblePlaces
 from somerows.sources import after_commit, child_passes, commits, is_source, wished
 
 
@@ -23,7 +23,7 @@ def is_lane(plan, possible, lane, value):
     """Return whether the value is a tuple of possible messages that the lane has room for."""
     if not isinstance(value, tuple) or len(value) > plan[LATE]:
         return False
-    return all([possible.include(lane, message) for message in value])
+    return all([possible.include(lane, (message,)) for message in value])
 
 
 def is_standing_with(case, plan, possible, value):
@@ -40,12 +40,12 @@ def is_standing_with(case, plan, possible, value):
 
 def is_standing(case, plan, value):
     """Return whether the value is a standing."""
-    return is_standing_with(case, plan, PossibleMessages(case, plan), value)
+    return is_standing_with(case, plan, PossiblePlaces(case, (plan,)), value)
 
 
 def are_standings(case, plan, values):
     """Return whether all the values, which may be any, are standings."""
-    possible = PossibleMessages(case, plan)
+    possible = PossiblePlaces(case, (plan,))
     return all([is_standing_with(case, plan, possible, value) for value in values])
 
 
@@ -65,21 +65,29 @@ def followed(case, standing, source, copy, lanes):
     return source, copy, lanes, next_mark(case, standing, source, copy)
 
 
+def with_messages(lanes, messages):
+    """Return the lanes with each message, where it is not None, behind those of its lane."""
+    return tuple([
+        waiting if message is None else waiting + (message,)
+        for waiting, message in zip(lanes, messages)
+    ])
+
+
+def without_first(lanes, lane):
+    """Return the lanes without what is first in one of them."""
+    return lanes[:lane] + (lanes[lane][1:],) + lanes[lane + 1:]
+
+
 def after_messages(case, standing, source, messages):
     """Return the standing after a commit that leads to this source and gives these messages."""
-    lanes = [
-        waiting if message is None else waiting + (message,)
-        for waiting, message in zip(standing[2], messages)
-    ]
-    return followed(case, standing, source, standing[1], tuple(lanes))
+    return followed(case, standing, source, standing[1], with_messages(standing[2], messages))
 
 
 def after_delivery(case, plan, standing, lane):
     """Return the standing after the lane has delivered its first message."""
     source, copy, lanes = standing[:3]
-    message = lanes[lane][0]
-    rest = lanes[:lane] + (lanes[lane][1:],) + lanes[lane + 1:]
-    return followed(case, standing, source, received(case, plan, copy, message), rest)
+    later = received(case, plan, copy, lanes[lane][0])
+    return followed(case, standing, source, later, without_first(lanes, lane))
 
 
 def after_beginning_anew(case, plan, standing):

@@ -1,30 +1,19 @@
 """Tables, which show that no history has a fault, and histories, which show one that has."""
 
 from somerows.faults import has_fault
-from somerows.moves import Moves
+from somerows.moves import Moves, after_any, is_closed
 from somerows.searches import search_for
 from somerows.standings import are_standings, beginning
 
 
 def find_table(case, plan, words):
     """Return the least table for the words, or None if there is none."""
-    search, fault = search_for(case, plan, words)
-    if fault is not None:
-        return None
-    return tuple(sorted(search.origins))
+    return search_for(case, plan, words).closed()
 
 
 def find_history(case, plan, words):
     """Return a history for the words with as few steps as can be, or None if there is none."""
-    search, fault = search_for(case, plan, words)
-    if fault is None:
-        return None
-    return search.path_to(fault)
-
-
-def is_ascending(values):
-    """Return whether the values ascend and are all different."""
-    return all([value < later for value, later in zip(values, values[1:])])
+    return search_for(case, plan, words).path()
 
 
 def is_table(case, plan, words, value):
@@ -32,16 +21,9 @@ def is_table(case, plan, words, value):
     # Only standings are compared: other values may have no order in Python.
     if not isinstance(value, tuple) or not are_standings(case, plan, value):
         return False
-    known = {standing: True for standing in value}
-    if not is_ascending(value) or beginning(case, plan) not in known:
+    if any([has_fault(case, words, standing) for standing in value]):
         return False
-    moves = Moves(case, plan)
-    for standing in value:
-        if has_fault(case, words, standing):
-            return False
-        if not all([later in known for _, later in moves.of_standing(standing)]):
-            return False
-    return True
+    return is_closed(Moves(case, plan), beginning(case, plan), value)
 
 
 def is_history(case, plan, words, value):
@@ -55,7 +37,7 @@ def is_history(case, plan, words, value):
         # A history ends with the first fault.
         if faulty:
             return False
-        standing = moves.after_any(standing, step)
+        standing = after_any(moves, standing, step)
         if standing is None:
             return False
         faulty = has_fault(case, words, standing)

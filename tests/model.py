@@ -1,8 +1,9 @@
-"""A second working out of points [7] to [12], which the package is compared with.
+"""A second working out of points [7] to [16], which the package is compared with.
 
 It says the same in another way: rows by their names, entries as they are told.
 """
 
+import itertools
 from collections import namedtuple
 
 from somerows.sources import commits
@@ -243,3 +244,209 @@ def holds_as_layers(case, plan, words, number, value):
             and not any(is_faulty(case, words, standing) for standing in lower)
             and all(later in value and value[later] - value[standing] <= 1
                     for standing in lower for later in laters(case, plan, standing)))
+
+
+def along(start, value, steps, after):
+    """Return the standings along a value of any kind, or None if it is no tuple of steps."""
+    if type(value) is not tuple:
+        return None
+    standings = [start]
+    for step in value:
+        # Python takes 1 and True as equal, their texts tell them apart.
+        if repr(step) not in map(repr, steps(standings[-1])):
+            return None
+        standings.append(after(standings[-1], step))
+    return standings
+
+
+def along_path(case, plan, value, start=None):
+    """Return the standings along a value of any kind, or None if it is no path."""
+    return along(start or beginning(case, plan), value,
+                 lambda standing: steps(case, plan, standing),
+                 lambda standing, step: after(case, plan, standing, step))
+
+
+def is_closed(start, value, valid, laters):
+    """Return whether a value of any kind is a closed tuple of standings.
+
+    valid has the texts of all standings that there can be.
+    """
+    if type(value) is not tuple or not all(repr(standing) in valid for standing in value):
+        return False
+    known = set(value)
+    return (list(value) == sorted(known) and start in known
+            and all(known.issuperset(laters(standing)) for standing in known))
+
+
+def every_lane(items, late):
+    return [lane for many in range(late + 1) for lane in itertools.product(items, repeat=many)]
+
+
+def every_copy(case):
+    n, _, kinds, test, _ = case
+    kept = {-1} | {value for _, value in test}
+    children = [()] + list(itertools.product(range(kinds), range(n)))
+    return list(itertools.product(itertools.product(kept, repeat=n), children))
+
+
+def every_standing(case, plan):
+    """Return all standings that there can be, also those that no steps lead to."""
+    lanes = [every_lane(messages, plan[1]) for messages in possible_messages(case, plan)]
+    return list(itertools.product(every_source(case), every_copy(case),
+                                  itertools.product(*lanes), (0, 1, 2)))
+
+
+# Points [13] to [16].
+
+def safe_words(case, plan):
+    found = {word for standing in distances(case, plan) for word in faults(case, standing)}
+    return tuple(word for word in ('blinks', 'dangles', 'lacks', 'left') if word not in found)
+
+
+def split(standing):
+    """Return what each plan of a pair standing has alone."""
+    source, first, second, lanes = standing
+    return [(source, copy, tuple(tuple(place[at] for place in lane) for lane in lanes), 0)
+            for at, copy in enumerate((first, second))]
+
+
+def pair_beginning(case, first, second):
+    source, copy, lanes, _ = beginning(case, first)
+    return source, copy, copy, lanes
+
+
+def pair_steps(case, first, second, standing):
+    one, two = split(standing)
+    found = steps(case, first, one)
+    assert found == steps(case, second, two)
+    return found
+
+
+def after_pair(case, first, second, standing, step):
+    one, two = split(standing)
+    one, two = after(case, first, one, step), after(case, second, two, step)
+    lanes = tuple(tuple(zip(*pair)) for pair in zip(one[2], two[2]))
+    return one[0], one[1], two[1], lanes
+
+
+def pair_laters(case, first, second, standing):
+    return [after_pair(case, first, second, standing, step)
+            for step in pair_steps(case, first, second, standing)]
+
+
+def pair_distances(case, first, second):
+    """Return all pair standings that steps lead to before the copies differ, and the first where
+    they do, each with the fewest steps.
+    """
+    found = {pair_beginning(case, first, second): 0}
+    queue = list(found)
+    for standing in queue:
+        if standing[1] != standing[2]:
+            continue
+        for later in pair_laters(case, first, second, standing):
+            if later not in found:
+                found[later] = found[standing] + 1
+                queue.append(later)
+    return found
+
+
+def fewest_to_part(distances):
+    """Return the fewest steps of a parting, or None if there is none."""
+    return min((number for standing, number in distances.items() if standing[1] != standing[2]),
+               default=None)
+
+
+def along_pair(case, first, second, value):
+    return along(pair_beginning(case, first, second), value,
+                 lambda standing: pair_steps(case, first, second, standing),
+                 lambda standing, step: after_pair(case, first, second, standing, step))
+
+
+def holds_as_parting(case, first, second, value):
+    """Return whether a value of any kind is a parting, by its definition alone."""
+    standings = along_pair(case, first, second, value)
+    if standings is None:
+        return False
+    differ = [standing[1] != standing[2] for standing in standings]
+    return differ.index(True) == len(differ) - 1 if True in differ else False
+
+
+def every_pair_standing(case, first, second):
+    """Return all pair standings that there can be, also those that no steps lead to."""
+    places = [set() for _ in range(first[0])]
+    for source in every_source(case):
+        for commit in commits(case, source):
+            told = zip(messages(case, first, source, commit), messages(case, second, source, commit))
+            for lane, place in enumerate(told):
+                places[lane] |= {place} - {(None, None)}
+    lanes = [every_lane(found, first[1]) for found in places]
+    copies = every_copy(case)
+    return list(itertools.product(every_source(case), copies, copies, itertools.product(*lanes)))
+
+
+def holds_as_pair_table(case, first, second, valid, value):
+    """Return whether a value of any kind is a pair table; valid has all texts of standings."""
+    return (is_closed(pair_beginning(case, first, second), value, valid,
+                      lambda standing: pair_laters(case, first, second, standing))
+            and all(standing[1] == standing[2] for standing in value))
+
+
+def sight(standing):
+    return standing[1], tuple(map(len, standing[2]))
+
+
+def outcomes(case, plan, standing):
+    """Return the copies after all deliveries in every order, each order by itself."""
+    orders = {()}
+    for lane, waiting in enumerate(standing[2]):
+        for _ in waiting:
+            orders = {order[:at] + (lane,) + order[at:]
+                      for order in orders for at in range(len(order) + 1)}
+    found = set()
+    for order in orders:
+        later = standing
+        for lane in order:
+            later = after(case, plan, later, ('deliver', lane))
+        found.add(later[1])
+    return sorted(found)
+
+
+def without_anew(plan):
+    return plan[:7] + ('never',)
+
+
+def is_mended(case, standing, later):
+    source, copy, lanes, _ = later
+    return (source == standing[0] and not any(lanes)
+            and rows_of(copy) == wished_rows(case, source))
+
+
+def mending_distances(case, plan, standing):
+    """Return all standings that commits and deliveries lead to, each with the fewest steps."""
+    calm = without_anew(plan)
+    found = {standing: 0}
+    queue = [standing]
+    for before in queue:
+        for later in laters(case, calm, before):
+            if later not in found:
+                found[later] = found[before] + 1
+                queue.append(later)
+    return found
+
+
+def fewest_to_mend(case, standing, distances):
+    return min((number for later, number in distances.items()
+                if is_mended(case, standing, later)), default=None)
+
+
+def holds_as_mending(case, plan, standing, value):
+    """Return whether a value of any kind is a mending, by its definition alone."""
+    standings = along_path(case, without_anew(plan), value, standing)
+    return standings is not None and is_mended(case, standing, standings[-1])
+
+
+def holds_as_hopeless(case, plan, standing, valid, value):
+    """Return whether a value of any kind is a hopeless set; valid has all texts of standings."""
+    calm = without_anew(plan)
+    return (is_closed(standing, value, valid, lambda later: laters(case, calm, later))
+            and not any(is_mended(case, standing, later) for later in value))

@@ -54,6 +54,39 @@ def listed(value):
     return value
 
 
+def other_kinds(value):
+    """Return the value with each tuple as a list and each integer as a bool in it, one by one."""
+    if isinstance(value, tuple):
+        found = [list(value)]
+        for at, part in enumerate(value):
+            found.extend(with_part(value, at, other) for other in other_kinds(part))
+        return found
+    if isinstance(value, int) and value in (0, 1):
+        return [bool(value)]
+    return []
+
+
+def differing(value):
+    """Return what differs from a value built of tuples by one part, at any depth.
+
+    A part is left out, put in, there twice, exchanged with the next one, another one or
+    of another kind.
+    """
+    found = []
+    if isinstance(value, tuple):
+        found += [list(value), value + (0,), value + ((),), (None,) + value]
+        for at, part in enumerate(value):
+            found += [value[:at] + value[at + 1:], value[:at + 1] + value[at:],
+                      value[:at] + value[at:at + 2][::-1] + value[at + 2:]]
+            found += [with_part(value, at, other) for other in differing(part)]
+    elif isinstance(value, str):
+        found += ['', value + 's', value.upper(), None]
+    else:
+        found += [value - 1, value + 1, None, str(value)]
+        found += [bool(value)] if value in (0, 1) else []
+    return [other for other in found if repr(other) != repr(value)]
+
+
 def all_tests(values, kinds):
     """Return every ascending tuple of different pairs."""
     pairs = list(itertools.product(range(kinds), range(values)))

@@ -22,6 +22,19 @@ INTERFACE = {
                'is_table(case, plan, words, value)', 'is_history(case, plan, words, value)'],
     'layers': ['find_layers(case, plan, words)', 'fewest_steps(case, plan, words)',
                'is_layers(case, plan, words, number, value)'],
+    'offers': ['is_offer(value)', 'cost_of(prices, plan)', 'priced(lanes, late, anew, prices)',
+               'is_sound(case, plan, words)', 'safe_words(case, plan)',
+               'cheapest_plan(case, offer, words)', 'find_book(case, offer, words)',
+               'is_book(case, offer, words, cost, value)'],
+    'pairs': ['pair_beginning(case, first, second)', 'pair_steps(case, first, second, standing)',
+              'after_pair(case, first, second, standing, step)', 'are_alike(case, first, second)',
+              'find_pair_table(case, first, second)', 'find_parting(case, first, second)',
+              'is_pair_table(case, first, second, value)',
+              'is_parting(case, first, second, value)', 'alike_groups(case, plans)'],
+    'sights': ['sight_of(standing)', 'is_sight(case, plan, value)', 'is_path(case, plan, value)',
+               'watch_of(case, plan, path)', 'possible_sources(case, plan, sight)',
+               'find_path(case, plan, sight, source)', 'sure_rows(case, plan, sight)',
+               'sources_after(case, plan, watch)'],
 }
 
 

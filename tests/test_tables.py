@@ -6,7 +6,7 @@ import unittest
 
 import model
 from samples import BARE, JOINT, PAIR, SAFE, SEARCHED, SMALL, STRANGE_VALUES, WORDS
-from samples import every_words, listed, plan_with, searched, with_part
+from samples import every_words, listed, other_kinds, plan_with, searched, with_part
 from somerows.faults import faults
 from somerows.standings import after, beginning, is_standing, steps
 from somerows.tables import find_history, find_table, is_history, is_table
@@ -27,18 +27,6 @@ LARGEST = ((1, 2, 2, ((0, 0), (1, 1)), True),
 def in_place(table, standing):
     """Return the table with one more standing, where it belongs."""
     return tuple(sorted(table + (standing,)))
-
-
-def other_kinds(value):
-    """Return the value with each tuple as a list and each integer as a bool in it, one by one."""
-    if isinstance(value, tuple):
-        found = [list(value)]
-        for at, part in enumerate(value):
-            found.extend(with_part(value, at, other) for other in other_kinds(part))
-        return found
-    if isinstance(value, int) and value in (0, 1):
-        return [bool(value)]
-    return []
 
 
 class Finding(unittest.TestCase):
