@@ -50,10 +50,16 @@ def message_of(changed, word):
     return None
 
 
-def messages_of(case, plan, source, commit):
-    """Return, for each lane, the message that the commit gives, or None."""
-    later = after_commit(source, commit)
-    changed = [(change[0], entries_of(case, plan, source, later, change)) for change in commit]
+def in_lanes(plan, changed):
+    """Return, for each lane, the message or None, by (word of a change, its entries) in order."""
     if plan[LANES] == 1:
         return (tuple([entry for _, entries in changed for entry in entries]),)
     return tuple([message_of(changed, word) for word in LANE_WORDS])
+
+
+def messages_of(case, plan, source, commit):
+    """Return, for each lane, the message that the commit gives, or None."""
+    later = after_commit(source, commit)
+    return in_lanes(plan, [
+        (change[0], entries_of(case, plan, source, later, change)) for change in commit
+    ])

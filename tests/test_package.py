@@ -35,6 +35,13 @@ INTERFACE = {
                'watch_of(case, plan, path)', 'possible_sources(case, plan, sight)',
                'find_path(case, plan, sight, source)', 'sure_rows(case, plan, sight)',
                'sources_after(case, plan, watch)'],
+    'mendings': ['outcomes(case, plan, standing)', 'settles(case, plan, standing)',
+                 'find_mending(case, plan, standing)', 'find_hopeless(case, plan, standing)',
+                 'is_mending(case, plan, standing, value)',
+                 'is_hopeless(case, plan, standing, value)'],
+    'feedlogs': ['feed_log(feed)', 'first_feed_fault(case, plan, c, value)',
+                 'is_feed_log(case, plan, c, value)', 'history_of(case, plan, c, log, k)'],
+    'papers': ['text_of_plan(plan)', 'text_of_case(case)', 'read_plan(text)', 'read_case(text)'],
 }
 
 
