@@ -63,21 +63,23 @@ def is_feed_log(case, plan, c, value):
 
 
 def own_step(feed, call, k):
-    """Return a tuple with the step of child k that the next call of the feed is, or ()."""
+    """Return the step of child k that the next call of the feed is, or None."""
     if call[0] == "anew":
-        return (call,)
+        return call
     if call[0] == "commit":
         part = own_part(call[1], k)
-        return () if part == () else (("commit", part),)
+        return None if part == () else ("commit", part)
     changes, _ = feed.under_way()[call[1]][0]
-    return (call,) if is_own_place(feed.plan, call[1], changes, k) else ()
+    return call if is_own_place(feed.plan, call[1], changes, k) else None
 
 
 def history_of(case, plan, c, log, k):
     """Return the tuple of the steps that the log has for child k."""
     feed = Feed(case, plan, c)
-    found = ()
+    found = []
     for call, _ in log:
-        found = found + own_step(feed, call, k)
+        step = own_step(feed, call, k)
+        if step is not None:
+            found.append(step)
         make(feed, call)
-    return found
+    return tuple(found)

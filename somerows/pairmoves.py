@@ -51,7 +51,7 @@ class PairMoves:
         self.second = second
         self.turns = {}
 
-    def turns_of(self, source):
+    def turns_at(self, source):
         """Return (commit, source after it, its places) for all commits of the source, ascending."""
         if source not in self.turns:
             self.turns[source] = [
@@ -68,7 +68,7 @@ class PairMoves:
         moves = []
         if first[ANEW] != "never":
             moves.append((("anew",), after_pair_anew(case, first, standing)))
-        for commit, source, places in self.turns_of(standing[0]):
+        for commit, source, places in self.turns_at(standing[0]):
             if have_room(first, lanes, places):
                 moves.append((("commit", commit), after_pair_places(standing, source, places)))
         for lane, waiting in enumerate(lanes):

@@ -351,6 +351,15 @@ class IsHopeless(unittest.TestCase):
                 found.append(len(value) > len(hopeless) and self.check(told, value))
         self.assertEqual(set(found), {False, True})
 
+    def test_more_messages_than_late(self):
+        # All steps of the overfull standing lead into the set.
+        message = (('child', (0, 0), -1),)
+        hopeless = find_hopeless(SMALL, DEAF, EXTRA)
+        for many in (1, 2):
+            standing = with_part(EXTRA, 2, ((message,) * many,))
+            value = set(hopeless) | set(model.mending_distances(SMALL, DEAF, standing))
+            self.assertIs(is_hopeless(SMALL, DEAF, EXTRA, tuple(sorted(value))), many == 1)
+
     def test_the_standing_itself_must_be_there(self):
         for case, plan, _, valid, hopeless in self.told:
             found = []

@@ -323,6 +323,20 @@ class IsPairTable(unittest.TestCase):
                 found.append(same and len(known) > len(table))
         self.assertIn(True, found)
 
+    def test_more_places_than_late(self):
+        # All steps of the overfull standing lead into the table.
+        for late in (1, 2):
+            plans = [plan_with(plan, late=late) for plan in (SAFE, KEEN)]
+            place = ((('parent', 0, 1, ()),),) * 2
+            for many in (late, late + 1):
+                standing = (((1,), ()), ((1,), ()), ((1,), ()), ((place,) * many,))
+                known, pending = set(find_pair_table(SMALL, *plans)), [standing]
+                for before in pending:
+                    if before not in known:
+                        known.add(before)
+                        pending += model.pair_laters(SMALL, *plans, before)
+                self.assertIs(is_pair_table(SMALL, *plans, tuple(sorted(known))), many == late)
+
     def test_a_table_with_a_copy_that_no_steps_lead_to(self):
         # Each delivery puts the copy right, so that all steps lead back into the table.
         told = (SMALL, SAFE, SAFE)
